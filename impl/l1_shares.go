@@ -24,6 +24,16 @@ func shareOf(a []int) (share, bool) {
 	return a, true
 }
 
+// pairOf takes two lists as shares of one degree, if they are such.
+func pairOf(a []int, b []int) (share, share, bool) {
+	s, oks := shareOf(a)
+	t, okt := shareOf(b)
+	if !oks || !okt || s.degree() != t.degree() {
+		return nil, nil, false
+	}
+	return s, t, true
+}
+
 // sharesOf gives all shares of a degree with no part above a limit, in order, each one in memory of its own.
 func sharesOf(degree int, limit int) iter.Seq[share] {
 	return func(yield func(share) bool) {
@@ -223,9 +233,8 @@ func ShareTurn(a []int) ([]int, bool) {
 
 // ShareAbove reports whether the first one of two shares of one degree is above the second one.
 func ShareAbove(a []int, b []int) bool {
-	s, oks := shareOf(a)
-	t, okt := shareOf(b)
-	return oks && okt && s.degree() == t.degree() && s.above(t)
+	s, t, ok := pairOf(a, b)
+	return ok && s.above(t)
 }
 
 // ShareJoin returns the share with the parts of two shares, and true.
