@@ -51,6 +51,11 @@ func sharesOf(degree int, limit int) iter.Seq[share] {
 	}
 }
 
+// allShares returns all shares of a degree, in order.
+func allShares(degree int) []share {
+	return slices.Collect(sharesOf(degree, DegreeMax))
+}
+
 func (s share) degree() int {
 	sum := 0
 	for _, part := range s {
