@@ -150,15 +150,12 @@ func wantChange(f impl.Sum, way string) (impl.Sum, bool) {
 	return wholeSum(way, f.Degree, solve(wayTables()[way][f.Degree], plainNumbers(f)))
 }
 
-// wantMake is what SumMake is to return: in the product, powers of the letters are made of powers of both sums in all ways.
-func wantMake(f impl.Sum, g impl.Sum) (impl.Sum, bool) {
-	d := f.Degree + g.Degree
-	if d > 6 {
-		return impl.Sum{}, false
-	}
+// productNumbers holds the numbers of the product of two sums told in the way m, however great: in the product, powers of the
+// letters are made of powers of both sums in all ways.
+func productNumbers(f impl.Sum, g impl.Sum) []*big.Rat {
 	numbers := []*big.Rat{}
 	ofF, ofG := plainNumbers(f), plainNumbers(g)
-	for _, c := range knownShares()[d] {
+	for _, c := range knownShares()[f.Degree+g.Degree] {
 		total := new(big.Rat)
 		for second := range splits()[g.Degree] {
 			first := [6]int{}
@@ -173,7 +170,16 @@ func wantMake(f impl.Sum, g impl.Sum) (impl.Sum, bool) {
 		}
 		numbers = append(numbers, total)
 	}
-	return wholeSum("m", d, numbers)
+	return numbers
+}
+
+// wantMake is what SumMake is to return.
+func wantMake(f impl.Sum, g impl.Sum) (impl.Sum, bool) {
+	d := f.Degree + g.Degree
+	if d > 6 {
+		return impl.Sum{}, false
+	}
+	return wholeSum("m", d, productNumbers(f, g))
 }
 
 // placeOfPowers is the place of the share that six powers make, put in order and without noughts.
