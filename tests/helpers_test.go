@@ -34,6 +34,14 @@ func orders(n int) [][]int {
 	return all
 }
 
+// drawer gives numbers without an order that shows, from -limit to limit: always the same ones for a seed.
+func drawer(seed uint64) func(limit int) int {
+	return func(limit int) int {
+		seed = seed*6364136223846793005 + 1442695040888963407
+		return int(seed>>33)%(2*limit+1) - limit
+	}
+}
+
 func sum(a []int) int {
 	s := 0
 	for _, x := range a {

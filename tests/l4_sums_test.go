@@ -208,10 +208,7 @@ func wantAt(t *testing.T, f impl.Sum, x []int) int {
 
 // listsOfNumbers holds lists of n numbers for sums: noughts, small numbers, numbers at CoefMax, and numbers anywhere between.
 func listsOfNumbers(n int, seed uint64) [][]int {
-	next := func(limit int) int {
-		seed = seed*6364136223846793005 + 1442695040888963407
-		return int(seed>>33)%(2*limit+1) - limit
-	}
+	next := drawer(seed)
 	all := [][]int{make([]int, n), slices.Repeat([]int{coefMax}, n), slices.Repeat([]int{-coefMax}, n)}
 	for _, limit := range []int{1, 1, 2, 20, 3000, coefMax} {
 		numbers := []int{}
