@@ -34,6 +34,16 @@ func pairOf(a []int, b []int) (share, share, bool) {
 	return s, t, true
 }
 
+// joinableOf takes two lists as shares, if they are such and have degrees that together are no greater than DegreeMax.
+func joinableOf(a []int, b []int) (share, share, bool) {
+	s, oks := shareOf(a)
+	t, okt := shareOf(b)
+	if !oks || !okt || s.degree()+t.degree() > DegreeMax {
+		return nil, nil, false
+	}
+	return s, t, true
+}
+
 // sharesOf gives all shares of a degree with no part above a limit, in order, each one in memory of its own.
 func sharesOf(degree int, limit int) iter.Seq[share] {
 	return func(yield func(share) bool) {
@@ -197,6 +207,15 @@ func (s share) lists() int {
 	return count
 }
 
+// listsOf gives shares out as plain lists, in their memory.
+func listsOf(all []share) [][]int {
+	lists := [][]int{}
+	for _, s := range all {
+		lists = append(lists, s)
+	}
+	return lists
+}
+
 // found returns what a method finds for a list, if it is a share.
 func found[T any](a []int, find func(share) T) (T, bool) {
 	s, ok := shareOf(a)
@@ -244,9 +263,8 @@ func ShareAbove(a []int, b []int) bool {
 
 // ShareJoin returns the share with the parts of two shares, and true.
 func ShareJoin(a []int, b []int) ([]int, bool) {
-	s, oks := shareOf(a)
-	t, okt := shareOf(b)
-	if !oks || !okt || s.degree()+t.degree() > DegreeMax {
+	s, t, ok := joinableOf(a, b)
+	if !ok {
 		return nil, false
 	}
 	return s.join(t), true
@@ -280,9 +298,5 @@ func ShareLists(a []int) (int, bool) {
 // ShareLower returns all shares that come by taking 1 off a part, in order, and true.
 func ShareLower(a []int) ([][]int, bool) {
 	all, ok := found(a, share.lower)
-	lists := [][]int{}
-	for _, t := range all {
-		lists = append(lists, t)
-	}
-	return lists, ok
+	return listsOf(all), ok
 }
