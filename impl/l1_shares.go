@@ -125,11 +125,15 @@ func (s share) above(t share) bool {
 	return true
 }
 
+// inOrder makes a share of parts that may stand in any order, in their memory.
+func inOrder(parts share) share {
+	slices.Sort(parts)
+	slices.Reverse(parts)
+	return parts
+}
+
 func (s share) join(t share) share {
-	all := slices.Concat(s, t)
-	slices.Sort(all)
-	slices.Reverse(all)
-	return all
+	return inOrder(slices.Concat(s, t))
 }
 
 // runs returns, for each part, how many equal ones there are up to it: the product over a run is the factorial of its length.
